@@ -1,4 +1,4 @@
-"""Tests that the package keeps to the small part of Python that the program is written in (L1 to L28)."""
+"""Tests that the package keeps to its small part of Python: those of L1 to L28 that are easily seen, not all."""
 
 import ast
 import builtins
