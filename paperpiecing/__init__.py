@@ -1,1 +1,1 @@
-"""Paper piecing: which tops are sewn on one paper, patch behind patch, and in which order."""
+"""Paper piecing: which tops are sewn on one paper, patch behind patch, in which orders, and what may be last."""

@@ -1,4 +1,4 @@
-"""The calls about papers: whether a top goes on one, and in which order its patches are put on."""
+"""The calls about papers: whether a top goes on one, in which orders its patches are put on, and which may be last."""
 
 from paperpiecing.tops import patch_spans, read_block
 
@@ -42,12 +42,25 @@ def told_order(spans):
     taken = []
     # A patch that may be last may still be when others are gone, so no choice leads astray.
     while len(left) > 1:
-        lasts = last_patches(spans, left)
-        if lasts == []:
+        found = last_patches(spans, left)
+        if found == []:
             return []
-        taken.append(lasts[-1])
-        left.remove(lasts[-1])
+        taken.append(found[-1])
+        left.remove(found[-1])
     return left + list(reversed(taken))
+
+
+def is_order(spans, row):
+    """Tell whether a row of numbers is an order of all patches of a top."""
+    total = len(spans[0])
+    if sorted(row) != list(range(total)):
+        return False
+    left = list(row)
+    while len(left) > 1:
+        if left[-1] not in last_patches(spans, left):
+            return False
+        left.pop()
+    return True
 
 
 def can(text):
@@ -71,3 +84,24 @@ def order(text):
     if told == []:
         return [NO_ORDER]
     return [DONE] + told
+
+
+def check(text, row):
+    """Answer 0, then 1 if the row is an order of the top, else 0; or a refusal."""
+    rows = read_block(text)
+    refusal = refusal_of(text, rows)
+    if refusal != DONE:
+        return [refusal]
+    if is_order(patch_spans(rows), row):
+        return [DONE, 1]
+    return [DONE, 0]
+
+
+def lasts(text):
+    """Answer 0, then the patches that may be last, rising; or a refusal."""
+    rows = read_block(text)
+    refusal = refusal_of(text, rows)
+    if refusal != DONE:
+        return [refusal]
+    spans = patch_spans(rows)
+    return [DONE] + last_patches(spans, list(range(len(spans[0]))))

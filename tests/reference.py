@@ -1,10 +1,12 @@
-"""A second, slow reading of the document, straight from its words, that the tests hold the program against.
+"""What the tests share: a second, slow reading of the document, straight from its words, and many tops to try.
 
 Nothing here comes from the package: quarters are triangles with corners, lines are tried one by one,
-and orders are found by trying all choices.
+and orders are found by trying all choices. The tops are made from rows of numbers that are the same each time.
 """
 
+import itertools
 import re
+import string
 
 SQUARE = rb"(?:[A-Za-z]|[A-Za-z][/\\][A-Za-z]|[A-Za-z]{4})"
 BLOCKS = [re.compile(rb"(?:%s(?: %s){%d}\n){1,6}" % (SQUARE, SQUARE, more)) for more in range(6)]
@@ -114,3 +116,49 @@ def told_order(sides, left):
         row.insert(0, max(lasts))
         left = [patch for patch in left if patch != max(lasts)]
     return list(left) + row
+
+
+def lasts_of(sides, left):
+    return [patch for patch in left if may_be_last(sides, left, patch)]
+
+
+def is_order(sides, total, row):
+    """Whether a row is an order of the patches from 0 to below the total."""
+    if sorted(row) != list(range(total)):
+        return False
+    return all(may_be_last(sides, row[:place + 1], row[place]) for place in range(1, total))
+
+
+def numbers_from(seed):
+    """The same row of whole numbers each time."""
+    while True:
+        seed = (seed * 6364136223846793005 + 1442695040888963407) % 2 ** 64
+        yield seed >> 33
+
+
+def made_text(source, wide, high, letters):
+    def square():
+        some = [letters[next(source) % len(letters)] for count in range(4)]
+        forms = [some[0], some[0] + "/" + some[1], some[0] + "\\" + some[1], "".join(some), some[0], some[0]]
+        return forms[next(source) % len(forms)]
+
+    return "".join(" ".join(square() for x in range(wide)) + "\n" for y in range(high))
+
+
+def sewn_top(source, wide, high):
+    """A top from which strips at its sides are taken, and how many: each has a letter of its own."""
+    letters = [["z"] * wide for row in range(high)]
+    left, right, upper, lower = 0, wide, 0, high
+    count = 0
+    while right - left > 1 or lower - upper > 1:
+        box = [left, right, upper, lower]
+        if right - left > 1 and (lower - upper == 1 or next(source) % 2):
+            box[next(source) % 2] = left + 1 + next(source) % (right - left - 1)
+        else:
+            box[2 + next(source) % 2] = upper + 1 + next(source) % (lower - upper - 1)
+        for x, y in itertools.product(range(left, right), range(upper, lower)):
+            if not (box[0] <= x < box[1] and box[2] <= y < box[3]):
+                letters[y][x] = string.ascii_letters[count]
+        left, right, upper, lower = box
+        count += 1
+    return "".join(" ".join(row) + "\n" for row in letters), count + 1

@@ -20,22 +20,6 @@ def on_one(*told):
     return [0, 1], [0, *told]
 
 
-def numbers_from(seed):
-    """The same row of whole numbers each time."""
-    while True:
-        seed = (seed * 6364136223846793005 + 1442695040888963407) % 2 ** 64
-        yield seed >> 33
-
-
-def made_text(source, wide, high, letters):
-    def square():
-        some = [letters[next(source) % len(letters)] for count in range(4)]
-        forms = [some[0], some[0] + "/" + some[1], some[0] + "\\" + some[1], "".join(some), some[0], some[0]]
-        return forms[next(source) % len(forms)]
-
-    return "".join(" ".join(square() for x in range(wide)) + "\n" for y in range(high))
-
-
 class Case(unittest.TestCase):
     def both(self, text, expected):
         """Hold both calls against what is expected, and the list against what it was."""
@@ -285,9 +269,9 @@ class WrongTexts(Case):
                 self.assertEqual(can(list(text))[0], 0 if reference.is_block(text) else -6, bytes(text))
 
     def test_changed_texts(self):
-        source = numbers_from(11)
+        source = reference.numbers_from(11)
         for count in range(1500):
-            text = list(made_text(source, 1 + next(source) % 6, 1 + next(source) % 6, "abC").encode("ascii"))
+            text = list(reference.made_text(source, 1 + next(source) % 6, 1 + next(source) % 6, "abC").encode("ascii"))
             place = next(source) % len(text)
             change = next(source) % 3
             if change == 0:
@@ -332,38 +316,19 @@ class AgainstTheWords(unittest.TestCase):
             self.hold("".join(" ".join(letters[row:row + 3]) + "\n" for row in (0, 3, 6)))
 
     def test_many_tops(self):
-        source = numbers_from(5)
+        source = reference.numbers_from(5)
         for count in range(300):
             wide, high = 1 + next(source) % 3, 1 + next(source) % 3
-            self.hold(made_text(source, wide, high, "abcde"[:2 + next(source) % 4]))
+            self.hold(reference.made_text(source, wide, high, "abcde"[:2 + next(source) % 4]))
 
     def test_tops_that_are_sewn(self):
         # Strips along the sides of what is left, which always go on one paper.
-        source = numbers_from(3)
+        source = reference.numbers_from(3)
         for count in range(60):
-            text, strips = sewn_top(source, 1 + next(source) % 6, 1 + next(source) % 6)
+            text, strips = reference.sewn_top(source, 1 + next(source) % 6, 1 + next(source) % 6)
             self.assertEqual(can(list(text.encode("ascii"))), [0, 1], text)
             self.assertEqual(sorted(order(list(text.encode("ascii")))[1:]), list(range(strips)), text)
             self.hold(text)
-
-
-def sewn_top(source, wide, high):
-    """A top from which strips at its sides are taken, and how many: each has a letter of its own."""
-    letters = [["z"] * wide for row in range(high)]
-    left, right, upper, lower = 0, wide, 0, high
-    count = 0
-    while right - left > 1 or lower - upper > 1:
-        box = [left, right, upper, lower]
-        if right - left > 1 and (lower - upper == 1 or next(source) % 2):
-            box[next(source) % 2] = left + 1 + next(source) % (right - left - 1)
-        else:
-            box[2 + next(source) % 2] = upper + 1 + next(source) % (lower - upper - 1)
-        for x, y in itertools.product(range(left, right), range(upper, lower)):
-            if not (box[0] <= x < box[1] and box[2] <= y < box[3]):
-                letters[y][x] = string.ascii_letters[count]
-        left, right, upper, lower = box
-        count += 1
-    return "".join(" ".join(row) + "\n" for row in letters), count + 1
 
 
 if __name__ == "__main__":
