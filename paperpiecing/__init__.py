@@ -1,1 +1,1 @@
-"""Paper piecing: which tops are sewn on one paper, patch behind patch, in which orders, and what may be last."""
+"""Paper piecing: which tops are sewn on one paper, patch behind patch, in which orders, and how few papers do."""

@@ -1,13 +1,17 @@
-"""The calls about papers: whether a top goes on one, in which orders its patches are put on, and which may be last."""
+"""The calls about papers: whether a top goes on one, in which orders, what may be last, and how few papers do."""
 
+from paperpiecing.orders import is_order, last_patches, told_order
+from paperpiecing.seams import NO_SHEETS, told_sheets
 from paperpiecing.tops import patch_spans, read_block
 
 MOST_BYTES = 1024
+MOST_PATCHES = 10
 
 DONE = 0
 TOO_LONG = -2
-NO_ORDER = -5
+NONE_TO_TELL = -5
 AT_FAULT = -6
+TOO_MANY = -8
 
 
 def refusal_of(text, rows):
@@ -19,48 +23,9 @@ def refusal_of(text, rows):
     return DONE
 
 
-def last_patches(spans, patches):
-    """Return those of the patches that may be last, rising."""
-    found = {}
-    # No line parts a single patch.
-    if len(patches) < 2:
-        return []
-    for along in spans:
-        # A patch that ends below the second lowest beginning ends below all the others' beginnings:
-        # it is itself the lowest. So one bound serves for every patch, and likewise from the other end.
-        second_low = sorted([along[patch][0] for patch in patches])[1]
-        second_high = sorted([along[patch][1] for patch in patches])[-2]
-        for patch in patches:
-            if along[patch][1] < second_low or along[patch][0] > second_high:
-                found[patch] = True
-    return sorted(found)
-
-
-def told_order(spans):
-    """Return the told order of a top's patches, or an empty list if they have no order."""
-    left = list(range(len(spans[0])))
-    taken = []
-    # A patch that may be last may still be when others are gone, so no choice leads astray.
-    while len(left) > 1:
-        found = last_patches(spans, left)
-        if found == []:
-            return []
-        taken.append(found[-1])
-        left.remove(found[-1])
-    return left + list(reversed(taken))
-
-
-def is_order(spans, row):
-    """Tell whether a row of numbers is an order of all patches of a top."""
-    total = len(spans[0])
-    if sorted(row) != list(range(total)):
-        return False
-    left = list(row)
-    while len(left) > 1:
-        if left[-1] not in last_patches(spans, left):
-            return False
-        left.pop()
-    return True
+def all_patches(spans):
+    """Return the group of all patches of a top."""
+    return tuple(range(len(spans[0])))
 
 
 def can(text):
@@ -69,7 +34,8 @@ def can(text):
     refusal = refusal_of(text, rows)
     if refusal != DONE:
         return [refusal]
-    if told_order(patch_spans(rows)) == []:
+    spans = patch_spans(rows)
+    if told_order(spans, all_patches(spans)) == []:
         return [DONE, 0]
     return [DONE, 1]
 
@@ -80,9 +46,10 @@ def order(text):
     refusal = refusal_of(text, rows)
     if refusal != DONE:
         return [refusal]
-    told = told_order(patch_spans(rows))
+    spans = patch_spans(rows)
+    told = told_order(spans, all_patches(spans))
     if told == []:
-        return [NO_ORDER]
+        return [NONE_TO_TELL]
     return [DONE] + told
 
 
@@ -92,7 +59,8 @@ def check(text, row):
     refusal = refusal_of(text, rows)
     if refusal != DONE:
         return [refusal]
-    if is_order(patch_spans(rows), row):
+    spans = patch_spans(rows)
+    if is_order(spans, all_patches(spans), row):
         return [DONE, 1]
     return [DONE, 0]
 
@@ -104,4 +72,35 @@ def lasts(text):
     if refusal != DONE:
         return [refusal]
     spans = patch_spans(rows)
-    return [DONE] + last_patches(spans, list(range(len(spans[0]))))
+    return [DONE] + last_patches(spans, all_patches(spans))
+
+
+def fewest_sheets(text):
+    """Return DONE, how many papers the told sheets of a top have, and their row; or a refusal alone."""
+    rows = read_block(text)
+    refusal = refusal_of(text, rows)
+    if refusal != DONE:
+        return (refusal,)
+    spans = patch_spans(rows)
+    if len(all_patches(spans)) > MOST_PATCHES:
+        return (TOO_MANY,)
+    told = told_sheets(spans, all_patches(spans))
+    if told == NO_SHEETS:
+        return (NONE_TO_TELL,)
+    return (DONE, told[0], told[1])
+
+
+def fewest(text):
+    """Answer 0, then the fewest papers; or a refusal."""
+    found = fewest_sheets(text)
+    if found[0] != DONE:
+        return [found[0]]
+    return [DONE, found[1]]
+
+
+def sheets(text):
+    """Answer 0, then the row of the told sheets; or a refusal."""
+    found = fewest_sheets(text)
+    if found[0] != DONE:
+        return [found[0]]
+    return [DONE] + found[2]

@@ -1,12 +1,14 @@
 """What the tests share: a second, slow reading of the document, straight from its words, and many tops to try.
 
 Nothing here comes from the package: quarters are triangles with corners, lines are tried one by one,
-and orders are found by trying all choices. The tops are made from rows of numbers that are the same each time.
+and orders and sheets are found by trying all choices. The tops are made from rows of numbers that are the same
+each time. Sheets are ("paper", patches) or ("seam", line, sheets before it, sheets behind it).
 """
 
 import itertools
 import re
 import string
+import unittest
 
 SQUARE = rb"(?:[A-Za-z]|[A-Za-z][/\\][A-Za-z]|[A-Za-z]{4})"
 BLOCKS = [re.compile(rb"(?:%s(?: %s){%d}\n){1,6}" % (SQUARE, SQUARE, more)) for more in range(6)]
@@ -129,6 +131,79 @@ def is_order(sides, total, row):
     return all(may_be_last(sides, row[:place + 1], row[place]) for place in range(1, total))
 
 
+def parted(sides, left, line):
+    """The patches before a line that parts them, and those behind it; or None."""
+    if any(len(sides[line][patch]) == 2 for patch in left):
+        return None
+    before = tuple(patch for patch in left if True in sides[line][patch])
+    behind = tuple(patch for patch in left if False in sides[line][patch])
+    return (before, behind) if before and behind else None
+
+
+def seams_of(sides, left):
+    """All lines that part some patches, in the lines' order, each with its two sides."""
+    found = [(line, parted(sides, left, line)) for line in sorted(LINES)]
+    return [(line, both) for line, both in found if both]
+
+
+def all_sheets(sides, left):
+    found = [("paper", tuple(row)) for row in orders_of(sides, left)]
+    for line, (before, behind) in seams_of(sides, left):
+        for one, other in itertools.product(all_sheets(sides, before), all_sheets(sides, behind)):
+            found.append(("seam", line, one, other))
+    return found
+
+
+def papers_in(sheets):
+    return 1 if sheets[0] == "paper" else papers_in(sheets[2]) + papers_in(sheets[3])
+
+
+def told_sheets(sides, left, known):
+    """The told sheets or None; what is known of some patches is kept, for they are come to in many ways."""
+    if left not in known:
+        row = told_order(sides, left)
+        known[left] = ("paper", tuple(row)) if row else sheets_by_first_line(sides, left, known)
+    return known[left]
+
+
+def sheets_by_first_line(sides, left, known):
+    found = []
+    for line, both in seams_of(sides, left):
+        before, behind = [told_sheets(sides, side, known) for side in both]
+        if before and behind:
+            found.append(("seam", line, before, behind))
+    least = min([papers_in(sheets) for sheets in found], default=0)
+    return next((sheets for sheets in found if papers_in(sheets) == least), None)
+
+
+def row_of(sheets):
+    if sheets[0] == "paper":
+        return [5, len(sheets[1]), *sheets[1]]
+    direction, at = sheets[1]
+    return [direction, at + 64] + row_of(sheets[2]) + row_of(sheets[3])
+
+
+def read_sheets(row):
+    """The sheets that the front of a row tells, and what is left behind them."""
+    kind, number, *rest = row
+    if kind == 5:
+        assert 0 < number <= len(rest)
+        return ("paper", tuple(rest[:number])), rest[number:]
+    assert kind in range(4)
+    before, rest = read_sheets(rest)
+    behind, rest = read_sheets(rest)
+    return ("seam", (kind, number - 64), before, behind), rest
+
+
+def are_sheets(sides, left, sheets):
+    if sheets[0] == "paper":
+        row = list(sheets[1])
+        places = range(1, len(row))
+        return sorted(row) == sorted(left) and all(may_be_last(sides, row[:at + 1], row[at]) for at in places)
+    both = parted(sides, left, sheets[1])
+    return both is not None and are_sheets(sides, both[0], sheets[2]) and are_sheets(sides, both[1], sheets[3])
+
+
 def numbers_from(seed):
     """The same row of whole numbers each time."""
     while True:
@@ -162,3 +237,79 @@ def sewn_top(source, wide, high):
         left, right, upper, lower = box
         count += 1
     return "".join(" ".join(row) + "\n" for row in letters), count + 1
+
+
+def cut_top(source, wide, high, most):
+    """A top that is cut through again and again, into at most so many pieces: each has a letter of its own."""
+    boxes = [(0, wide, 0, high)]
+    for cut in range(next(source) % most):
+        left, right, upper, lower = boxes.pop(next(source) % len(boxes))
+        if next(source) % 2 and right - left > 1:
+            middle = left + 1 + next(source) % (right - left - 1)
+            boxes += [(left, middle, upper, lower), (middle, right, upper, lower)]
+        elif lower - upper > 1:
+            middle = upper + 1 + next(source) % (lower - upper - 1)
+            boxes += [(left, right, upper, middle), (left, right, middle, lower)]
+        else:
+            boxes.append((left, right, upper, lower))
+    letters = {
+        (x, y): string.ascii_letters[number]
+        for number, (left, right, upper, lower) in enumerate(boxes)
+        for x, y in itertools.product(range(left, right), range(upper, lower))
+    }
+    return "".join(" ".join(letters[x, y] for x in range(wide)) + "\n" for y in range(high))
+
+
+def squares_of(text):
+    return [[letters_of(square) for square in row.split(" ")] for row in text.split("\n")[:-1]]
+
+
+def turned(text):
+    """The top turned to the right by a quarter of a circle: what was left is now above."""
+    rows = squares_of(text)
+    columns = [[row[x] for row in reversed(rows)] for x in range(len(rows[0]))]
+    return "".join(" ".join(square[3] + square[:3] for square in column) + "\n" for column in columns)
+
+
+def mirrored(text):
+    """The top with left and right changed about."""
+    rows = [[square[0] + square[3] + square[2] + square[1] for square in reversed(row)] for row in squares_of(text)]
+    return "".join(" ".join(row) + "\n" for row in rows)
+
+
+def all_ways_round(text):
+    """The top as it lies when it is turned and laid on its face."""
+    ways = [text, turned(text), turned(turned(text)), turned(turned(turned(text)))]
+    return ways + [mirrored(way) for way in ways]
+
+
+class UnchangingList(list):
+    """A list that can't be changed, not for a while either."""
+
+    def refuse(self, *args, **named):
+        raise AssertionError("what is handed in is changed")
+
+    append = clear = extend = insert = pop = remove = reverse = sort = refuse
+    __setitem__ = __delitem__ = __iadd__ = __imul__ = refuse
+
+
+def listed(text):
+    return list(text.encode("ascii") if isinstance(text, str) else text)
+
+
+def shown(values):
+    return values if len(values) < 200 else values[:200]
+
+
+class Case(unittest.TestCase):
+    def hold(self, call, answer, *given):
+        """Hold two calls with the same lists against the answer, and the lists against what they were."""
+        kept = [list(values) for values in given]
+        with self.subTest(call=call.__name__, given=[shown(values) for values in given]):
+            for time in range(2):
+                got = call(*given)
+                self.assertEqual(got, answer)
+                self.assertIs(type(got), list)
+                self.assertEqual({type(number) for number in got}, {int})
+                self.assertEqual(list(given), kept)
+            self.assertEqual(call(*[UnchangingList(values) for values in given]), answer)

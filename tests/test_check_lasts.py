@@ -9,29 +9,12 @@ import unittest
 
 import reference
 from paperpiecing.papers import can, check, lasts, order
+from reference import listed
 
 GREATEST = 4294967295
 LOG_CABIN = "a b b\na c d\na e d\n"
 PINWHEEL = "a a b\nd e b\nd c c\n"
 OCTAGON = "b/a a b\\a\na a a\na\\b a a/b\n"
-
-
-class UnchangingList(list):
-    """A list that can't be changed, not for a while either."""
-
-    def refuse(self, *args, **named):
-        raise AssertionError("what is handed in is changed")
-
-    append = clear = extend = insert = pop = remove = reverse = sort = refuse
-    __setitem__ = __delitem__ = __iadd__ = __imul__ = refuse
-
-
-def listed(text):
-    return list(text.encode("ascii") if isinstance(text, str) else text)
-
-
-def shown(values):
-    return values if len(values) < 200 else values[:200]
 
 
 def exchanged(row, one, other):
@@ -41,19 +24,7 @@ def exchanged(row, one, other):
     return changed
 
 
-class Case(unittest.TestCase):
-    def hold(self, call, answer, *given):
-        """Hold two calls with the same lists against the answer, and the lists against what they were."""
-        kept = [list(values) for values in given]
-        with self.subTest(call=call.__name__, given=[shown(values) for values in given]):
-            for time in range(2):
-                got = call(*given)
-                self.assertEqual(got, answer)
-                self.assertIs(type(got), list)
-                self.assertEqual({type(number) for number in got}, {int})
-                self.assertEqual(list(given), kept)
-            self.assertEqual(call(*[UnchangingList(values) for values in given]), answer)
-
+class Case(reference.Case):
     def lasts_are(self, text, *patches):
         self.hold(lasts, [0, *patches], listed(text))
 
