@@ -1,7 +1,7 @@
 """The calls about papers: whether a top goes on one, in which orders, what may be last, and how few papers do."""
 
 from paperpiecing.orders import is_order, last_patches, told_order
-from paperpiecing.seams import NO_SHEETS, told_sheets
+from paperpiecing.seams import NO_SHEETS, papers_in_row, told_sheets
 from paperpiecing.tops import patch_spans, read_block
 
 MOST_BYTES = 1024
@@ -104,3 +104,16 @@ def sheets(text):
     if found[0] != DONE:
         return [found[0]]
     return [DONE] + found[2]
+
+
+def take(text, row):
+    """Answer 0, then 1 and how many papers, if the row is that of sheets of the top, else 0 and 0; or a refusal."""
+    rows = read_block(text)
+    refusal = refusal_of(text, rows)
+    if refusal != DONE:
+        return [refusal]
+    spans = patch_spans(rows)
+    papers = papers_in_row(spans, all_patches(spans), row)
+    if papers == 0:
+        return [DONE, 0, 0]
+    return [DONE, 1, papers]

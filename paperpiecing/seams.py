@@ -1,9 +1,9 @@
-"""Several papers: the lines that part a group of patches, and the told sheets, which have the fewest papers.
+"""Several papers: the lines that part a group of patches, the told sheets, and reading any row of sheets.
 
 A group is a tuple of patches, rising. A seam is a line that parts a group, with the groups on its two sides.
 """
 
-from paperpiecing.orders import told_order
+from paperpiecing.orders import is_order, told_order
 from paperpiecing.tops import DIRECTIONS
 
 # A line's at is told with this on top, so that it is never below 0.
@@ -42,7 +42,8 @@ def groups_within(spans, whole):
     reached = {whole: True}
     waiting = [whole]
     while len(waiting) > 0:
-        for seam in seams_of(spans, waiting.pop()):
+        group = waiting.pop()
+        for seam in seams_of(spans, group):
             for side in seam[2:]:
                 if side not in reached:
                     reached[side] = True
@@ -73,3 +74,41 @@ def told_sheets(spans, whole):
         else:
             told[group] = (1, [PAPER, len(row)] + row)
     return told[whole]
+
+
+def holds_paper(spans, group, row, place):
+    """Tell whether a paper with an order of the group begins at a place of a row."""
+    behind_head = place + 2
+    if row[place:behind_head] != [PAPER, len(group)]:
+        return False
+    return is_order(spans, group, row[behind_head:behind_head + len(group)])
+
+
+def sides_in_row(spans, group, row, place):
+    """Return the two sides of the group's seam that begins at a place of a row, or an empty tuple if none does."""
+    if place + 2 > len(row) or row[place] not in DIRECTIONS:
+        return ()
+    return sides_of(spans, group, row[place], row[place + 1] - AT_SHIFT)
+
+
+def papers_in_row(spans, whole, row):
+    """Return how many papers the sheets of a group have that a row tells, or 0 if it is no row of its sheets."""
+    papers = 0
+    place = 0
+    # The groups whose sheets are still to come in the row, the next one at the end.
+    waiting = [whole]
+    while len(waiting) > 0:
+        group = waiting.pop()
+        if holds_paper(spans, group, row, place):
+            papers = papers + 1
+            place = place + 2 + len(group)
+        else:
+            sides = sides_in_row(spans, group, row, place)
+            if sides == ():
+                return 0
+            waiting.append(sides[1])
+            waiting.append(sides[0])
+            place = place + 2
+    if place < len(row):
+        return 0
+    return papers

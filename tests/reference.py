@@ -5,6 +5,7 @@ and orders and sheets are found by trying all choices. The tops are made from ro
 each time. Sheets are ("paper", patches) or ("seam", line, sheets before it, sheets behind it).
 """
 
+import functools
 import itertools
 import re
 import string
@@ -13,6 +14,39 @@ import unittest
 SQUARE = rb"(?:[A-Za-z]|[A-Za-z][/\\][A-Za-z]|[A-Za-z]{4})"
 BLOCKS = [re.compile(rb"(?:%s(?: %s){%d}\n){1,6}" % (SQUARE, SQUARE, more)) for more in range(6)]
 LINES = [(direction, at) for direction in range(4) for at in range(-8, 15)]
+
+GREATEST = 4294967295
+LOG_CABIN = "a b b\na c d\na e d\n"
+PINWHEEL = "a a b\nd e b\nd c c\n"
+# Tops of ten patches, among them those with the most groups of patches between seams that a search found: 66.
+SLOW_TOPS = (
+    "a b c d e\nf g h i j\n",
+    "a b\nc d\ne f\ng h\ni j\n",
+    "a/b c/d e/f g/h i/j\n",
+    "a/b a\\b aacc\na\\b a/b a/b\n",
+    "a/b c\\d\na/b c\\d\nb\\a deed\n",
+    "lggl llff\nlggl l\\k\ng\\k k/i\n",
+    "lklb l\\k\ne\\l cdhe\n",
+    "abcd efgh i/j\n",
+    "t k k\nk f b\nb lkdb b\ni i i\n",
+    "a b c c c c\na b d d d d\na b e f f f\na b e g g g\na b e h i i\na b e h j j\n",
+)
+
+# On three papers, on four, on five and on six.
+MANY_PAPERS = (
+    "amca a\nd a\\d\n",
+    "igid\nigid\n",
+    "l l/j g\nk l g\n",
+    "jfgi jfgi k/b\n",
+    "j j\nh\\f g\nf j\nc c\n",
+    "baba h d\nb j a\n",
+    "c f\ngijc gijc\n",
+    "t t t\nc l b\nc e/h h\ni i i\n",
+    "k tica i f\nk g a f\\k\n",
+    "i ahae\nc a\na bgda\n",
+    "t t t\nc l/j g\ncgkk g c\ni i i\n",
+    "t k k\nk f b\nb lkdb b\ni i i\n",
+)
 
 
 def is_block(text):
@@ -81,12 +115,13 @@ def patches_of(text):
 
 
 def sides_of(patches):
-    """For each line and patch: the sides that the patch has quarters on."""
-    return {line: [{quarter.before(*line) for quarter in patch} for patch in patches] for line in LINES}
+    """For each line that has quarters on both sides, and each patch: the sides that the patch has quarters on."""
+    sides = {line: [{quarter.before(*line) for quarter in patch} for patch in patches] for line in LINES}
+    return {line: here for line, here in sides.items() if len(set.union(*here)) == 2}
 
 
 def may_be_last(sides, left, patch):
-    for line in LINES:
+    for line in sides:
         here = {number: sides[line][number] for number in left}
         if any(len(side) == 2 for side in here.values()):
             continue
@@ -124,16 +159,16 @@ def lasts_of(sides, left):
     return [patch for patch in left if may_be_last(sides, left, patch)]
 
 
-def is_order(sides, total, row):
-    """Whether a row is an order of the patches from 0 to below the total."""
-    if sorted(row) != list(range(total)):
+def is_order(sides, left, row):
+    """Whether a row is an order of some patches."""
+    if sorted(row) != sorted(left):
         return False
-    return all(may_be_last(sides, row[:place + 1], row[place]) for place in range(1, total))
+    return all(may_be_last(sides, row[:place + 1], row[place]) for place in range(1, len(row)))
 
 
 def parted(sides, left, line):
     """The patches before a line that parts them, and those behind it; or None."""
-    if any(len(sides[line][patch]) == 2 for patch in left):
+    if line not in sides or any(len(sides[line][patch]) == 2 for patch in left):
         return None
     before = tuple(patch for patch in left if True in sides[line][patch])
     behind = tuple(patch for patch in left if False in sides[line][patch])
@@ -142,7 +177,7 @@ def parted(sides, left, line):
 
 def seams_of(sides, left):
     """All lines that part some patches, in the lines' order, each with its two sides."""
-    found = [(line, parted(sides, left, line)) for line in sorted(LINES)]
+    found = [(line, parted(sides, left, line)) for line in sorted(sides)]
     return [(line, both) for line, both in found if both]
 
 
@@ -176,6 +211,26 @@ def sheets_by_first_line(sides, left, known):
     return next((sheets for sheets in found if papers_in(sheets) == least), None)
 
 
+def paper(*patches):
+    return [5, len(patches), *patches]
+
+
+def upright(at, before, behind):
+    return [0, at + 64] + before + behind
+
+
+def level(at, before, behind):
+    return [1, at + 64] + before + behind
+
+
+def falling(at, before, behind):
+    return [2, at + 64] + before + behind
+
+
+def rising(at, before, behind):
+    return [3, at + 64] + before + behind
+
+
 def row_of(sheets):
     if sheets[0] == "paper":
         return [5, len(sheets[1]), *sheets[1]]
@@ -197,11 +252,42 @@ def read_sheets(row):
 
 def are_sheets(sides, left, sheets):
     if sheets[0] == "paper":
-        row = list(sheets[1])
-        places = range(1, len(row))
-        return sorted(row) == sorted(left) and all(may_be_last(sides, row[:at + 1], row[at]) for at in places)
+        return is_order(sides, left, list(sheets[1]))
     both = parted(sides, left, sheets[1])
     return both is not None and are_sheets(sides, both[0], sheets[2]) and are_sheets(sides, both[1], sheets[3])
+
+
+def front_taken(sides, left, row):
+    """How many papers the sheets of some patches have that a row begins with, and the rest of it; or None."""
+    if len(row) < 2:
+        return None
+    kind, number = row[:2]
+    if kind == 5:
+        patches, rest = row[2:2 + number], row[2 + number:]
+        return (1, rest) if len(patches) == number and is_order(sides, left, patches) else None
+    both = parted(sides, left, (kind, number - 64))
+    before = front_taken(sides, both[0], row[2:]) if both else None
+    behind = front_taken(sides, both[1], before[1]) if before else None
+    return (before[0] + behind[0], behind[1]) if behind else None
+
+
+def taken(sides, left, row):
+    """How many papers the sheets of some patches have that a row tells; 0 if it tells none."""
+    found = front_taken(sides, left, list(row))
+    return found[0] if found and found[1] == [] else 0
+
+
+def some_sheets(sides, left, source):
+    """Some sheets of patches that can be sewn by straight seams; None if they can't."""
+    row = told_order(sides, left)
+    if row and next(source) % 3:
+        return ("paper", tuple(row))
+    seams = seams_of(sides, left)
+    if len(left) == 1 or not seams:
+        return ("paper", tuple(row)) if row else None
+    line, both = seams[next(source) % len(seams)]
+    before, behind = [some_sheets(sides, side, source) for side in both]
+    return ("seam", line, before, behind) if before and behind else None
 
 
 def numbers_from(seed):
@@ -281,6 +367,28 @@ def all_ways_round(text):
     """The top as it lies when it is turned and laid on its face."""
     ways = [text, turned(text), turned(turned(text)), turned(turned(turned(text)))]
     return ways + [mirrored(way) for way in ways]
+
+
+def many_tops(seed):
+    """Texts of all kinds: letters at random, strips along the sides, pieces cut through and through."""
+    source = numbers_from(seed)
+    for count in range(200):
+        yield made_text(source, 1 + next(source) % 3, 1 + next(source) % 3, "abcde"[:2 + next(source) % 4])
+    for count in range(120):
+        yield made_text(source, 1 + next(source) % 2, 1 + next(source) % 2, "abcdefghijklmno")
+    for count in range(40):
+        yield sewn_top(source, 1 + next(source) % 6, 1 + next(source) % 6)[0]
+    for count in range(120):
+        yield cut_top(source, 2 + next(source) % 5, 2 + next(source) % 5, 12)
+    for text in MANY_PAPERS:
+        yield from all_ways_round(text)
+
+
+@functools.cache
+def slowly_read(text):
+    """All patches of a top, and on which sides of the lines they lie; kept, for several tests read the same tops."""
+    patches = patches_of(listed(text))
+    return tuple(range(len(patches))), sides_of(patches)
 
 
 class UnchangingList(list):

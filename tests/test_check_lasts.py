@@ -9,11 +9,8 @@ import unittest
 
 import reference
 from paperpiecing.papers import can, check, lasts, order
-from reference import listed
+from reference import GREATEST, LOG_CABIN, PINWHEEL, listed
 
-GREATEST = 4294967295
-LOG_CABIN = "a b b\na c d\na e d\n"
-PINWHEEL = "a a b\nd e b\nd c c\n"
 OCTAGON = "b/a a b\\a\na a a\na\\b a a/b\n"
 
 
@@ -344,7 +341,7 @@ class AgainstTheWords(unittest.TestCase):
             rows = [list(row) for row in itertools.permutations(everything)]
             self.assertEqual([row for row in rows if check(given, row) == [0, 1]], sorted(orders), text)
         for row in self.rows_to_try(given, sides, everything, source):
-            answer = 1 if reference.is_order(sides, len(patches), row) else 0
+            answer = 1 if reference.is_order(sides, everything, row) else 0
             self.assertEqual(check(given, row), [0, answer], (text, row))
 
     def rows_to_try(self, given, sides, everything, source):

@@ -1,7 +1,6 @@
 """Tests of fewest and sheets: ordinary tops, the edges that the document names, and wrong inputs."""
 
 import contextlib
-import functools
 import inspect
 import io
 import itertools
@@ -11,59 +10,8 @@ import unittest
 
 import reference
 from paperpiecing.papers import can, fewest, order, sheets
-from reference import listed
-
-LOG_CABIN = "a b b\na c d\na e d\n"
-PINWHEEL = "a a b\nd e b\nd c c\n"
-# Tops of ten patches, among them those with the most groups of patches between seams that a search found: 66.
-SLOW_TOPS = (
-    "a b c d e\nf g h i j\n",
-    "a b\nc d\ne f\ng h\ni j\n",
-    "a/b c/d e/f g/h i/j\n",
-    "a/b a\\b aacc\na\\b a/b a/b\n",
-    "a/b c\\d\na/b c\\d\nb\\a deed\n",
-    "lggl llff\nlggl l\\k\ng\\k k/i\n",
-    "lklb l\\k\ne\\l cdhe\n",
-    "abcd efgh i/j\n",
-    "t k k\nk f b\nb lkdb b\ni i i\n",
-    "a b c c c c\na b d d d d\na b e f f f\na b e g g g\na b e g h i\na b e g h j\n",
-)
-
-# On three papers, on four, on five and on six.
-MANY_PAPERS = (
-    "amca a\nd a\\d\n",
-    "igid\nigid\n",
-    "l l/j g\nk l g\n",
-    "jfgi jfgi k/b\n",
-    "j j\nh\\f g\nf j\nc c\n",
-    "baba h d\nb j a\n",
-    "c f\ngijc gijc\n",
-    "t t t\nc l b\nc e/h h\ni i i\n",
-    "k tica i f\nk g a f\\k\n",
-    "i ahae\nc a\na bgda\n",
-    "t t t\nc l/j g\ncgkk g c\ni i i\n",
-    "t k k\nk f b\nb lkdb b\ni i i\n",
-)
-
-
-def paper(*patches):
-    return [5, len(patches), *patches]
-
-
-def upright(at, before, behind):
-    return [0, at + 64] + before + behind
-
-
-def level(at, before, behind):
-    return [1, at + 64] + before + behind
-
-
-def falling(at, before, behind):
-    return [2, at + 64] + before + behind
-
-
-def rising(at, before, behind):
-    return [3, at + 64] + before + behind
+from reference import LOG_CABIN, MANY_PAPERS, PINWHEEL, SLOW_TOPS
+from reference import falling, level, listed, many_tops, paper, rising, slowly_read, upright
 
 
 class Case(reference.Case):
@@ -333,8 +281,9 @@ class WrongTexts(Case):
             self.refused(text, -2)
 
     def test_at_fault(self):
-        for text in ("a", "\n", "a\n\n", "a b\nc\n", "ab\n", "a/\n", " a\n", "a \n", "a  b\n", "a\r\n", "1\n", "abcde\n"):
+        for text in ("a", "\n", "a\n\n", "a b\nc\n", "ab\n", "a/\n", " a\n", "a \n", "a  b\n", "a\r\n", "1\n"):
             self.refused(text, -6)
+        self.refused("abcde\n", -6)
         self.refused("a a a a a a a\n", -6)
         self.refused("a\n" * 7, -6)
         self.refused([255], -6)
@@ -366,28 +315,6 @@ class WrongTexts(Case):
                 else:
                     self.assertIn(fewest(text)[0], (0, -5), bytes(text))
                     self.assertEqual(sheets(text)[0], fewest(text)[0], bytes(text))
-
-
-def many_tops():
-    """Texts of all kinds: letters at random, strips along the sides, pieces cut through and through."""
-    source = reference.numbers_from(31)
-    for count in range(200):
-        yield reference.made_text(source, 1 + next(source) % 3, 1 + next(source) % 3, "abcde"[:2 + next(source) % 4])
-    for count in range(120):
-        yield reference.made_text(source, 1 + next(source) % 2, 1 + next(source) % 2, "abcdefghijklmno")
-    for count in range(40):
-        yield reference.sewn_top(source, 1 + next(source) % 6, 1 + next(source) % 6)[0]
-    for count in range(120):
-        yield reference.cut_top(source, 2 + next(source) % 5, 2 + next(source) % 5, 12)
-    for text in MANY_PAPERS:
-        yield from reference.all_ways_round(text)
-
-
-@functools.cache
-def slowly_read(text):
-    """All patches of a top, and on which sides of the lines they lie; kept, for several tests read the same tops."""
-    patches = reference.patches_of(listed(text))
-    return tuple(range(len(patches))), reference.sides_of(patches)
 
 
 class AgainstTheWords(unittest.TestCase):
@@ -431,7 +358,7 @@ class AgainstTheWords(unittest.TestCase):
             self.hold("".join(" ".join(letters[row:row + 3]) + "\n" for row in (0, 3, 6)))
 
     def test_many_tops(self):
-        for text in many_tops():
+        for text in many_tops(31):
             self.hold(text)
 
     def test_slow_tops(self):
@@ -443,12 +370,12 @@ class ThePromises(unittest.TestCase):
     """D2, D3 and D4, as far as these calls reach them."""
 
     def test_tops_of_all_kinds_are_tried(self):
-        answers = [tuple(fewest(listed(text))) for text in many_tops()]
+        answers = [tuple(fewest(listed(text))) for text in many_tops(31)]
         for answer in ((0, 1), (0, 2), (0, 3), (0, 4), (0, 5), (0, 6), (-5,), (-8,)):
             self.assertGreater(answers.count(answer), 2, answer)
 
     def test_one_just_if_there_is_an_order(self):
-        for text in many_tops():
+        for text in many_tops(31):
             given = listed(text)
             if fewest(given) != [-8]:
                 self.assertEqual(fewest(given) == [0, 1], can(given) == [0, 1], text)
@@ -457,7 +384,7 @@ class ThePromises(unittest.TestCase):
                     self.assertEqual(sheets(given), [0, 5, len(told)] + told, text)
 
     def test_the_told_sheets_are_sheets_of_the_fewest_papers(self):
-        for text in many_tops():
+        for text in many_tops(31):
             given = listed(text)
             answer = sheets(given)
             self.assertEqual(fewest(given)[0], answer[0], text)
@@ -476,7 +403,7 @@ class ThePromises(unittest.TestCase):
                 self.assertEqual(fewest(listed(way)), answer, way)
 
     def test_some_just_if_straight_seams_lead_to_single_patches(self):
-        for text in many_tops():
+        for text in many_tops(31):
             everything, sides = slowly_read(text)
             if len(everything) <= 10:
                 answer = 0 if sewn_by_straight_seams(sides, everything) else -5
