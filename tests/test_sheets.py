@@ -18,6 +18,10 @@ class Case(reference.Case):
     def told(self, text, papers, row):
         self.hold(fewest, [0, papers], listed(text))
         self.hold(sheets, [0, *row], listed(text))
+        # What is written here must be what the slow reading tells as well.
+        everything, sides = slowly_read(text)
+        slow = reference.told_sheets(sides, everything, {})
+        self.assertEqual((papers, row), (reference.papers_in(slow), reference.row_of(slow)), text)
 
     def refused(self, text, number):
         self.hold(fewest, [number], listed(text))
